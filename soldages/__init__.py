@@ -1,0 +1,1 @@
+"""Soldages: which unit to sell first, and what the choice can change."""

@@ -1,0 +1,78 @@
+"""The form of the package's files, as far as a short test can tell it."""
+
+import ast
+import inspect
+import os
+import unittest
+
+import soldages
+from soldages import errors, logs, rules, spread
+
+FOLDER = os.path.dirname(soldages.__file__)
+LIBRARY = ("heapq", "math", "itertools", "collections", "__future__")
+INTERFACE = {
+    errors: {
+        "StoreError": None, "InvalidText": ["row"], "NotLawful": ["day"], "TooLarge": ["count"], "NotComparable": [],
+        "MoreSpread": ["level"], "NoChoice": ["number"], "Worse": ["future"], "NotThere": ["day"],
+        "InvalidRow": ["row"], "UnknownName": ["name"],
+    },
+    logs: {"Log": ["days"], "is_choice": ["log", "value"], "ages_of": ["choice"]},
+    rules: {"choice_by": ["log", "rule"], "choices": ["log"]},
+    spread: {
+        "Table": ["entries"], "transfers": ["first", "second"], "is_transfers": ["first", "second", "value"],
+        "compared": ["first", "second"],
+    },
+}
+METHODS = {
+    (logs, "Log"): {"parse": ["cls", "text"], "stock": ["self", "day"], "__str__": ["self"], "__eq__": ["self", "other"]},
+    (spread, "Table"): {"cost": ["self", "ages"], "__eq__": ["self", "other"]},
+}
+
+
+def sources():
+    """Return the names and the texts of the files of the package."""
+    found = []
+    for name in sorted(os.listdir(FOLDER)):
+        if name.endswith(".py"):
+            with open(os.path.join(FOLDER, name), encoding="utf-8") as file:
+                found.append((name, file.read()))
+    return found
+
+
+class FormTest(unittest.TestCase):
+    def test_sizes_and_characters(self):
+        for name, text in sources():
+            lines = text.split("\n")
+            self.assertLessEqual(len(lines), 399, name)
+            self.assertLessEqual(max(len(line) for line in lines), 120, name)
+            self.assertTrue(all(char == "\n" or " " <= char <= "~" for char in text), name)
+            for node in ast.walk(ast.parse(text)):
+                if isinstance(node, ast.FunctionDef):
+                    self.assertLessEqual(node.end_lineno - node.lineno + 1, 40, node.name)
+
+    def test_imports(self):
+        for name, text in sources():
+            for node in ast.walk(ast.parse(text)):
+                self.assertNotIsInstance(node, ast.Import, name)
+                if isinstance(node, ast.ImportFrom):
+                    self.assertEqual(node.level, 0, name)
+                    self.assertTrue(node.module.startswith("soldages.") or node.module in LIBRARY, name)
+
+    def test_the_interface_is_defined_in_its_files(self):
+        for module, names in INTERFACE.items():
+            for name, expected in names.items():
+                thing = getattr(module, name)
+                self.assertEqual(thing.__module__, module.__name__)
+                if expected is not None:
+                    self.assertEqual(list(inspect.signature(thing).parameters), expected, name)
+
+    def test_the_methods_stand_in_their_classes(self):
+        for (module, name), methods in METHODS.items():
+            own = vars(getattr(module, name))
+            for method, expected in methods.items():
+                function = getattr(own[method], "__func__", own[method])
+                self.assertEqual(list(inspect.signature(function).parameters), expected, method)
+
+
+if __name__ == "__main__":
+    unittest.main()
