@@ -35,6 +35,41 @@ SPREAD = """
 raises NotComparable()
 """
 
+EXCHANGES = """
+>>> from soldages.exchanges import exchanged, kind_of
+>>> choice = [(0, 2), (0, 3), (1, 1), (3, 3)]
+>>> [kind_of((0, 3), (1, 1)), exchanged(choice, (0, 3), (1, 1)), kind_of((0, 2), (0, 3))]
+['calming', [(0, 1), (0, 2), (1, 3), (3, 3)], 'none']
+"""
+
+PAIRS = """
+>>> from soldages.logs import Log
+>>> from soldages.pairs import is_possible, possible_ages, runs
+>>> log = Log([(2, 0), (1, 1), (0, 1), (1, 2)])
+>>> [is_possible(log, 1, 3), possible_ages(log, 3), runs(log), runs(Log([(1, 1), (1, 1)]))]
+[True, (0, 2, 3), [(0, 3)], [(0, 0), (1, 1)]]
+"""
+
+THRESHOLDS = """
+>>> from soldages.logs import Log
+>>> from soldages.thresholds import bounds, choice_with_number
+>>> log = Log([(2, 0), (1, 1), (0, 1), (1, 2)])
+>>> [bounds(log, 2), bounds(log, 3), choice_with_number(log, 2, 1)]
+[(1, 2), (0, 1), [(0, 1), (0, 3), (1, 2), (3, 3)]]
+
+>>> from soldages.logs import Log
+>>> from soldages.thresholds import choice_with_number
+>>> choice_with_number(Log([(2, 0), (1, 1), (0, 1), (1, 2)]), 2, 0)
+raises NoChoice(number=0)
+"""
+
+COSTS = """
+>>> from soldages.costs import Goods
+>>> goods = Goods([((5, 2), 0), ((9,), 1), ((), 1)])
+>>> [goods.greatest(), goods.least(), goods.taken(2), goods.totals(2)]
+[[0, 9, 14], [0, 2, 7], [9, 5], (7, 11, 14)]
+"""
+
 
 def outcome(rows):
     """Execute the rows of an example and return its last row as the document writes it."""
@@ -65,6 +100,18 @@ class ExamplesTest(unittest.TestCase):
 
     def test_spread(self):
         self.check(SPREAD, 2)
+
+    def test_exchanges(self):
+        self.check(EXCHANGES, 1)
+
+    def test_pairs(self):
+        self.check(PAIRS, 1)
+
+    def test_thresholds(self):
+        self.check(THRESHOLDS, 2)
+
+    def test_costs(self):
+        self.check(COSTS, 1)
 
 
 if __name__ == "__main__":

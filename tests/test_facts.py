@@ -1,4 +1,4 @@
-"""Point 2: the facts on which the four first stages rest, for all small logs."""
+"""Point 2: the facts about all choices of a log, for all small logs."""
 
 import unittest
 

@@ -4,6 +4,7 @@ from itertools import product
 
 from soldages.errors import NotLawful
 from soldages.logs import Log
+from soldages.rules import choice_by, choices
 
 
 def deep(size):
@@ -36,3 +37,72 @@ def all_small_logs():
     found = [*lawful_logs(1, 4), *lawful_logs(2, 3), *lawful_logs(3, 2), *lawful_logs(4, 1)]
     assert len(found) > 400
     return found
+
+
+def numbers(seed):
+    """Yield integers from 0 to 32767 in no plain order, the same ones each time."""
+    state = seed
+    while True:
+        state = (state * 1103515245 + 12345) % 2 ** 31
+        yield state >> 16
+
+
+def mixed_days(seed, days, units, most, sold):
+    """Return so many lawful days (arrived, left), with at most so many units in all, and a day's bounds of each."""
+    told = numbers(seed)
+    found, stock = [], 0
+    for _ in range(days):
+        arrived = min(units, next(told) % (most + 1))
+        units -= arrived
+        stock += arrived
+        left = min(stock, next(told) % (sold + 1))
+        stock -= left
+        found.append((arrived, left))
+    return found
+
+
+def rich_logs():
+    """Return logs of up to eight units, many of them with many choices."""
+    found = [Log(mixed_days(seed, 5 + seed % 5, 6, 2, 1)) for seed in range(60)]
+    return found + [
+        Log([(1, 0)] * 5 + [(0, 1)] * 5),
+        Log([(2, 0), (1, 1), (0, 1), (2, 0), (1, 2), (1, 1), (0, 1)]),
+        Log([(2, 0), (0, 0), (2, 1), (0, 0), (1, 1), (0, 1), (0, 0)]),
+        Log([(0, 0), (3, 1), (0, 2), (0, 0), (2, 0), (1, 2), (0, 0)]),
+        Log([(1, 0), (0, 1)] * 3),
+    ]
+
+
+def logs_with_choices():
+    """Return tuples of a small log and the list of all its choices."""
+    logs = [log for log in all_small_logs() if len(log.days_in) <= 5] + rich_logs()
+    return [(log, list(choices(log))) for log in logs]
+
+
+def great_logs():
+    """Return logs of up to sixty days and forty units."""
+    found = [Log(mixed_days(seed, 60, 40, 2 + seed % 3, 1 + seed % 2)) for seed in range(8)]
+    return found + [
+        Log([(1, 0)] * 30 + [(0, 1)] * 30),
+        Log([(2, 0)] * 20 + [(0, 0)] * 20 + [(0, 2)] * 20),
+        Log([(20, 0)] + [(1, 1)] * 20 + [(0, 0)] * 39),
+        Log([(1, 0)] * 40 + [(0, 0)] * 20),
+        Log([(40, 0)] + [(0, 0)] * 58 + [(0, 40)]),
+        Log([(0, 0)] * 60),
+    ]
+
+
+def mixed_choice(log, seed):
+    """Return a choice of a log by selling units in no plain order."""
+    told = numbers(seed)
+    waiting, there, pairs = list(log.days_in), [], []
+    for day_out in log.days_out:
+        while waiting and waiting[0] <= day_out:
+            there.append(waiting.pop(0))
+        pairs.append((there.pop(next(told) % len(there)), day_out))
+    return sorted(pairs)
+
+
+def some_choices(log):
+    """Return a few choices of a log, those by the two rules among them."""
+    return [choice_by(log, "oldest"), choice_by(log, "newest")] + [mixed_choice(log, seed) for seed in range(3)]
