@@ -1,4 +1,4 @@
-"""Questions about values of any kind, and copies of them."""
+"""Questions about values of any kind and about words, and copies of values."""
 
 
 def is_whole(value):
@@ -9,6 +9,11 @@ def is_whole(value):
 def is_whole_tuple(value, size):
     """Tell whether a value is a tuple of so many integers."""
     return isinstance(value, tuple) and len(value) == size and all([is_whole(part) for part in value])
+
+
+def is_number(word):
+    """Tell whether a word is an integer from 0 in digits without leading zeros."""
+    return word.isascii() and word.isdigit() and (word == "0" or not word.startswith("0"))
 
 
 def copied(value):

@@ -1,7 +1,7 @@
 """Logs of a store, their text form, and the choices that a log allows."""
 
 from soldages.errors import InvalidText, NotLawful
-from soldages.kinds import is_whole_tuple
+from soldages.kinds import is_number, is_whole_tuple
 
 MOST_DAYS = 60
 MOST_UNITS = 40
@@ -70,12 +70,7 @@ def _days_of(text):
 def _is_row(row):
     """Tell whether a row has the form of a day."""
     words = row.split(" ")
-    return len(words) == 2 and all([_is_number(word) for word in words])
-
-
-def _is_number(word):
-    """Tell whether a word is an integer from 0 in digits without leading zeros."""
-    return word.isascii() and word.isdigit() and (word == "0" or not word.startswith("0"))
+    return len(words) == 2 and all([is_number(word) for word in words])
 
 
 def _number_of(word):

@@ -5,7 +5,7 @@ import unittest
 from soldages.costs import Goods
 from soldages.errors import NotLawful, TooLarge
 from soldages.logs import Log
-from tests.values import all_small_logs, great_logs, numbers, rich_logs
+from tests.values import all_small_logs, great_logs, priced, rich_logs
 
 THREE = [((5, 2), 0), ((9,), 1), ((), 1)]
 GREAT = 10 ** 6
@@ -22,12 +22,6 @@ def sets_by_selling(goods):
                 tuple(sorted((*there, unit))) for there in found[-1] for unit in range(arrived) if unit not in there
             })
     return found
-
-
-def priced(log, seed, below):
-    """Return the days of a log with prices below a number, in no plain order."""
-    told = numbers(seed)
-    return [(tuple(next(told) % below for _ in range(arrived)), left) for arrived, left in log.days]
 
 
 def goods_to_try():

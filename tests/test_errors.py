@@ -29,6 +29,12 @@ class ErrorsTest(unittest.TestCase):
             self.assertEqual(kind.__module__, "soldages.errors")
             self.assertEqual(kind.__name__, name)
 
+    def test_none_is_a_subclass_of_another_one(self):
+        kinds = [getattr(errors, name) for name in [*ATTRIBUTES, "NotComparable"]]
+        for kind in kinds:
+            self.assertEqual([other for other in kinds if issubclass(kind, other)], [kind])
+            self.assertFalse(issubclass(errors.StoreError, kind))
+
     def test_attributes_are_the_values_passed(self):
         for name, attribute in ATTRIBUTES.items():
             for value in VALUES:

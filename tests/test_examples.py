@@ -70,6 +70,37 @@ COSTS = """
 [[0, 9, 14], [0, 2, 7], [9, 5], (7, 11, 14)]
 """
 
+LAYERS = """
+>>> from soldages.costs import Goods
+>>> from soldages.layers import left_by_period, left_prices, value_of
+>>> goods = Goods([((1,), 0), ((), 1), ((4,), 0)])
+>>> [left_prices(goods, 'newest'), left_by_period(goods, 'newest', [2]), value_of(left_prices(goods, 'oldest'))]
+[[4], [1], 4]
+"""
+
+SPOILING = """
+>>> from soldages.spoiling import matching, never_worse, Shop
+>>> shop = Shop(2, 'oldest')
+>>> [shop.pass_day(3, 1), shop.pass_day(1, 1), shop.lives, never_worse([2, 3], [1, 3]), matching([2, 3], [1, 3])]
+[(1, 0), (1, 1), (1,), True, [0, 1]]
+"""
+
+STORE = """
+>>> from soldages.store import Store
+>>> store = Store()
+>>> steps = [store.arrive(2), store.next_day(), store.arrive(1), store.sell(0), store.sell_by('newest')]
+>>> [steps, store.held, store.ages(), store.best(), store.worst()]
+[[None, 1, None, 1, 0], (0,), [0, 1], [1, 1], [0, 1]]
+"""
+
+CONSOLE = """
+>>> from soldages.console import Console
+>>> console = Console()
+>>> kept = console.answer('log a\\n2 0\\n1 1\\n0 1\\n1 2')
+>>> [kept, console.answer('ages a newest'), console.answer('old a 2'), console.answer('can a 1 3')]
+['ok', '0 0 2 3', '1 2', 'yes']
+"""
+
 
 def outcome(rows):
     """Execute the rows of an example and return its last row as the document writes it."""
@@ -112,6 +143,18 @@ class ExamplesTest(unittest.TestCase):
 
     def test_costs(self):
         self.check(COSTS, 1)
+
+    def test_layers(self):
+        self.check(LAYERS, 1)
+
+    def test_spoiling(self):
+        self.check(SPOILING, 1)
+
+    def test_store(self):
+        self.check(STORE, 1)
+
+    def test_console(self):
+        self.check(CONSOLE, 1)
 
 
 if __name__ == "__main__":

@@ -6,7 +6,8 @@ import os
 import unittest
 
 import soldages
-from soldages import costs, errors, exchanges, logs, pairs, rules, spread, thresholds
+from soldages import console, costs, errors, exchanges, layers, logs, pairs
+from soldages import rules, spoiling, spread, store, thresholds
 
 FOLDER = os.path.dirname(soldages.__file__)
 LIBRARY = ("heapq", "math", "itertools", "collections", "__future__")
@@ -35,14 +36,31 @@ INTERFACE = {
         "prices_for": ["log", "level", "*least"], "is_prices": ["log", "level", "value", "*least"],
     },
     costs: {"Goods": ["days"]},
+    layers: {
+        "left_prices": ["goods", "rule"], "left_by_period": ["goods", "rule", "ends"], "value_of": ["prices"],
+    },
+    spoiling: {
+        "Shop": ["life", "rule", "*stock"], "never_worse": ["first", "second"], "matching": ["first", "second"],
+    },
+    store: {"Store": []},
+    console: {"Console": []},
 }
 METHODS = {
-    (logs, "Log"): {"parse": ["cls", "text"], "stock": ["self", "day"], "__str__": ["self"], "__eq__": ["self", "other"]},
+    (logs, "Log"): {
+        "parse": ["cls", "text"], "stock": ["self", "day"], "__str__": ["self"], "__eq__": ["self", "other"],
+    },
     (spread, "Table"): {"cost": ["self", "ages"], "__eq__": ["self", "other"]},
     (costs, "Goods"): {
         "greatest": ["self"], "least": ["self"], "taken": ["self", "count", "*dearest"], "totals": ["self", "count"],
     },
+    (spoiling, "Shop"): {"pass_day": ["self", "arrived", "demanded"]},
+    (store, "Store"): {
+        "arrive": ["self", "count"], "sell": ["self", "day_in"], "sell_by": ["self", "rule"], "next_day": ["self"],
+        "log": ["self"], "ages": ["self"], "best": ["self"], "worst": ["self"], "fork": ["self"],
+    },
+    (console, "Console"): {"answer": ["self", "row"]},
 }
+PROPERTIES = {(spoiling, "Shop"): ["lives", "served", "spoiled"], (store, "Store"): ["today", "held"]}
 
 
 def parameters(thing):
@@ -94,6 +112,11 @@ class FormTest(unittest.TestCase):
             for method, expected in methods.items():
                 function = getattr(own[method], "__func__", own[method])
                 self.assertEqual(parameters(function), expected, method)
+
+    def test_the_properties_stand_in_their_classes(self):
+        for (module, name), properties in PROPERTIES.items():
+            for one in properties:
+                self.assertIsInstance(vars(getattr(module, name))[one], property, one)
 
 
 if __name__ == "__main__":

@@ -92,6 +92,31 @@ def great_logs():
     ]
 
 
+def priced(log, seed, below):
+    """Return the days of a log with prices below a number, in no plain order."""
+    told = numbers(seed)
+    return [(tuple(next(told) % below for _ in range(arrived)), left) for arrived, left in log.days]
+
+
+def joined(parts, ahead, between, behind):
+    """Return the days of all parts, one behind the other, with so many empty days ahead, between and behind."""
+    days = [(0, 0)] * ahead
+    for at, part in enumerate(parts):
+        days += ([(0, 0)] * between if at else []) + list(part)
+    return days + [(0, 0)] * behind
+
+
+def drawn_logs():
+    """Return logs of one to three drawn parts, with empty days ahead, between and behind, of few and of many units."""
+    found = []
+    for seed in range(90):
+        many = 1 + seed % 3
+        units = (6 // many, 8 // many, 36 // many)[seed % 9 // 3]
+        parts = [mixed_days(7 * seed + part, 4 + seed % 5, units, 2, 1 + seed % 4 // 3) for part in range(many)]
+        found.append(Log(joined(parts, seed % 4, seed % 5, seed % 3)))
+    return found
+
+
 def mixed_choice(log, seed):
     """Return a choice of a log by selling units in no plain order."""
     told = numbers(seed)
